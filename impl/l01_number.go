@@ -72,6 +72,11 @@ func GcdOf(a int, b int) int {
 	if !IsNumber(a) || !IsNumber(b) {
 		return 0
 	}
+	return greatestDivisor(a, b)
+}
+
+// greatestDivisor is not held to the limit: fractions are brought to lowest terms from products of numbers.
+func greatestDivisor(a int, b int) int {
 	for b != 0 {
 		a, b = b, a%b
 	}
