@@ -22,14 +22,16 @@ var noModuli = append([]int{0, -1, -2, -3, -10, -97, -101, -limit, limit + 2, 2 
 
 // imageByWords follows the words of the definition with numbers of any size.
 func imageByWords(r impl.Ratio, a, m int) bool {
-	inLimit := func(n int) bool { return -limit <= n && n <= limit }
-	isRatio := inLimit(r.Num) && r.Den >= 1 && r.Den <= limit && commonDivisor(r.Num, r.Den) == 1
-	if !isRatio || !inLimit(a) || m < 1 || m > limit || commonDivisor(r.Den, m) != 1 {
+	if !ratioByWords(r) || a < -limit || a > limit || m < 1 || m > limit || commonDivisor(r.Den, m) != 1 {
 		return false
 	}
 	difference := new(big.Int).Mul(big.NewInt(int64(a)), big.NewInt(int64(r.Den)))
 	difference.Sub(difference, big.NewInt(int64(r.Num)))
 	return bigResidue(difference, m) == 0
+}
+
+func ratioByWords(r impl.Ratio) bool {
+	return -limit <= r.Num && r.Num <= limit && 1 <= r.Den && r.Den <= limit && commonDivisor(r.Num, r.Den) == 1
 }
 
 func commonDivisor(a, b int) int {
