@@ -505,36 +505,46 @@ func TestFormsAreWhatStays(t *testing.T) {
 			t.Errorf("IsEchelon(%v) = %t, and the form is %v, %t", m, want, form, ok)
 		}
 	}
+	nearForms(check, func(m impl.Matrix) (impl.Matrix, bool) {
+		form, _, ok := impl.EchelonOf(m)
+		return form, ok
+	})
+	if counts[true] < 500 || counts[false] < 500 {
+		t.Errorf("%d matrices are forms, and %d are not", counts[true], counts[false])
+	}
+}
+
+// nearForms takes all matrices of a few small cells, those of many sizes, and those that differ from a form in one cell.
+func nearForms(take func(m impl.Matrix), formOf func(m impl.Matrix) (impl.Matrix, bool)) {
 	for word := range 4 * 4 * 4 * 4 {
-		check(spelled(2, word, []int{0, 1, -1, 2}))
+		take(spelled(2, word, []int{0, 1, -1, 2}))
 	}
 	for word := range 3 * 3 * 3 * 3 * 3 * 3 * 3 * 3 * 3 {
-		check(spelled(3, word, []int{0, 1, -2}))
+		take(spelled(3, word, []int{0, 1, -2}))
+		take(spelled(3, word, []int{0, 1, 2}))
 	}
 	for rows := range 4 {
 		for cols := range 5 {
 			for word := range 1 << (rows * cols) {
-				check(built(rows, cols, func(row, col int) int { return word >> (row*cols + col) & 1 }))
+				take(built(rows, cols, func(row, col int) int { return word >> (row*cols + col) & 1 }))
 			}
 		}
 	}
 	for i, m := range oblongs() {
-		check(m)
-		form, _, ok := impl.EchelonOf(m)
+		take(m)
+		form, ok := formOf(m)
 		if !ok || i%9 != 0 || len(form.Cells) > 100 {
 			continue
 		}
-		// One cell is changed.
 		for place := range form.Cells {
 			for _, change := range []int{1, -1} {
 				near := matrix(form.Rows, form.Cols, slices.Clone(form.Cells)...)
 				near.Cells[place] += change
-				check(near)
+				if max(near.Cells[place], -near.Cells[place]) <= limit {
+					take(near)
+				}
 			}
 		}
-	}
-	if counts[true] < 500 || counts[false] < 500 {
-		t.Errorf("%d matrices are forms, and %d are not", counts[true], counts[false])
 	}
 }
 
