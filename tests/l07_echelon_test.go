@@ -471,9 +471,6 @@ func TestIsEchelon(t *testing.T) {
 		matrix(2, 4, limit, 0, 0, 1, 0, 0, limit, 1), matrix(2, 3, 1, 0, limit, 0, 1, -limit), matrix(2, 4, 2, limit, 0, 1, 0, 0, 3, 1), matrix(2, 2, 0, 1, 0, 0),
 	}
 	for _, m := range forms {
-		if !impl.IsEchelon(m) {
-			t.Errorf("IsEchelon(%v) = false", m)
-		}
 		got, _, ok := impl.EchelonOf(m)
 		checkMatrix(t, "the form of a form", got, ok, m)
 	}
@@ -484,31 +481,53 @@ func TestIsEchelon(t *testing.T) {
 		"a cell far above a pivot": matrix(3, 3, 1, 0, 1, 0, 1, 0, 0, 0, 1), "a cell below a pivot": matrix(2, 3, 1, 0, 0, 1, 1, 0), "one column for two": matrix(2, 2, 1, 0, 1, 0),
 		"pivots to the left": matrix(2, 2, 0, 1, 1, 0), "pivots to the left below": matrix(3, 3, 1, 0, 0, 0, 0, 1, 0, 1, 0), "great cells": matrix(1, 2, limit, limit),
 	}
-	for name, m := range refused {
-		if impl.IsEchelon(m) {
-			t.Errorf("%s: IsEchelon(%v) = true", name, m)
+	checkForms(t, "IsEchelon", impl.IsEchelon, forms, refused)
+}
+
+// checkForms compares a check of forms with some that are forms, and with others that are none, each for a reason.
+func checkForms(t *testing.T, name string, isForm func(m impl.Matrix) bool, forms []impl.Matrix, refused map[string]impl.Matrix) {
+	t.Helper()
+	for _, m := range forms {
+		if !isForm(m) {
+			t.Errorf("%s(%v) = false", name, m)
+		}
+	}
+	for reason, m := range refused {
+		if isForm(m) {
+			t.Errorf("%s: %s(%v) = true", reason, name, m)
 		}
 	}
 }
 
 func TestFormsAreWhatStays(t *testing.T) {
+	checkStays(t, "IsEchelon", impl.IsEchelon, isForm, func(m impl.Matrix) (impl.Matrix, bool, bool) {
+		form, _, ok := impl.EchelonOf(m)
+		return form, same(form, m), ok
+	})
+}
+
+// checkStays compares a check of forms with what is a form by words, and with what the way to the form leaves as it is.
+func checkStays(t *testing.T, name string, isForm, byWords func(m impl.Matrix) bool, formOf func(m impl.Matrix) (form impl.Matrix, stays, ok bool), more ...impl.Matrix) {
+	t.Helper()
 	counts := map[bool]int{}
 	check := func(m impl.Matrix) {
 		t.Helper()
-		want := isForm(m)
+		want := byWords(m)
 		counts[want]++
-		if impl.IsEchelon(m) != want {
-			t.Errorf("IsEchelon(%v) = %t", m, !want)
+		if isForm(m) != want {
+			t.Errorf("%s(%v) = %t", name, m, !want)
 		}
-		form, _, ok := impl.EchelonOf(m)
-		if stays := ok && same(form, m); stays != want {
-			t.Errorf("IsEchelon(%v) = %t, and the form is %v, %t", m, want, form, ok)
+		if form, stays, ok := formOf(m); (ok && stays) != want {
+			t.Errorf("%s(%v) = %t, and the form is %v, %t", name, m, want, form, ok)
 		}
 	}
 	nearForms(check, func(m impl.Matrix) (impl.Matrix, bool) {
-		form, _, ok := impl.EchelonOf(m)
+		form, _, ok := formOf(m)
 		return form, ok
 	})
+	for _, m := range more {
+		check(m)
+	}
 	if counts[true] < 500 || counts[false] < 500 {
 		t.Errorf("%d matrices are forms, and %d are not", counts[true], counts[false])
 	}

@@ -90,10 +90,10 @@ func hermiteByWords(m impl.Matrix) (h, u impl.Matrix, ok bool) {
 
 // basisOfSums returns the rows other than zeros of the Hermite form of the sums of multiples of the rows. It takes one row
 // after the other into the basis, with combinations that make divisors, so it goes another way than the document. It knows no limits.
-func basisOfSums(m impl.Matrix) [][]*big.Int {
-	basis := make([][]*big.Int, m.Cols)
-	for _, row := range bigRows(m) {
-		for col := range m.Cols {
+func basisOfSums(rows [][]*big.Int, cols int) [][]*big.Int {
+	basis := make([][]*big.Int, cols)
+	for _, row := range rows {
+		for col := range cols {
 			if row[col].Sign() == 0 {
 				continue
 			}
@@ -341,7 +341,7 @@ func TestHermiteFormIsThatOfItsLattice(t *testing.T) {
 			continue
 		}
 		made++
-		basis, fits := smallRows(basisOfSums(m), m.Cols)
+		basis, fits := smallRows(basisOfSums(bigRows(m), m.Cols), m.Cols)
 		if !fits || !same(withoutZeros(h), basis) {
 			t.Errorf("HermiteForm(%v) = %v, want the rows of %v", m, h, basis)
 		}
@@ -497,11 +497,6 @@ func TestIsHermite(t *testing.T) {
 		matrix(2, 2, 1, 1, 0, 2), matrix(1, 2, 2, 4), matrix(1, 2, 2, -4), matrix(2, 2, 0, 1, 0, 0), matrix(3, 3, 1, 0, 5, 0, 1, 0, 0, 0, 6),
 		matrix(2, 2, 1, limit-1, 0, limit), matrix(2, 3, 1, 0, limit, 0, 1, -limit), matrix(3, 4, 0, 2, -9, 0, 0, 0, 0, 7, 0, 0, 0, 0), matrix(2, 4, 2, limit, 0, 1, 0, 0, 3, 1),
 	}
-	for _, m := range forms {
-		if !impl.IsHermite(m) {
-			t.Errorf("IsHermite(%v) = false", m)
-		}
-	}
 	refused := map[string]impl.Matrix{
 		"a sign": matrix(1, 1, -1), "a sign of more cells": matrix(1, 3, 0, -1, 2), "a sign in the last row": matrix(2, 2, 1, 0, 0, -1),
 		"zeros on top": matrix(2, 1, 0, 1), "zeros in between": matrix(3, 2, 1, 0, 0, 0, 0, 1), "zeros far on top": matrix(3, 2, 0, 0, 0, 0, 0, 1),
@@ -510,34 +505,14 @@ func TestIsHermite(t *testing.T) {
 		"a cell below a pivot": matrix(2, 3, 1, 0, 0, 1, 1, 0), "one column for two": matrix(2, 2, 2, 0, 1, 0), "a lesser one column above": matrix(2, 2, 1, 0, 2, 0),
 		"pivots to the left": matrix(2, 2, 0, 1, 1, 0), "pivots to the left below": matrix(3, 3, 1, 0, 0, 0, 0, 1, 0, 1, 0), "a row twice": matrix(2, 2, 1, 1, 1, 1),
 	}
-	for name, m := range refused {
-		if impl.IsHermite(m) {
-			t.Errorf("%s: IsHermite(%v) = true", name, m)
-		}
-	}
+	checkForms(t, "IsHermite", impl.IsHermite, forms, refused)
 }
 
 func TestHermiteFormsAreWhatStays(t *testing.T) {
-	counts := map[bool]int{}
-	check := func(m impl.Matrix) {
-		t.Helper()
-		want := isHermiteForm(m)
-		counts[want]++
-		if impl.IsHermite(m) != want {
-			t.Errorf("IsHermite(%v) = %t", m, !want)
-		}
+	checkStays(t, "IsHermite", impl.IsHermite, isHermiteForm, func(m impl.Matrix) (impl.Matrix, bool, bool) {
 		h, u, ok := impl.HermiteForm(m)
-		if stays := ok && same(h, m) && same(u, matrixOr(impl.IdentityMatrix(m.Rows))); stays != want {
-			t.Errorf("IsHermite(%v) = %t, and the form is %v, %v, %t", m, want, h, u, ok)
-		}
-	}
-	nearForms(check, func(m impl.Matrix) (impl.Matrix, bool) {
-		form, _, ok := impl.HermiteForm(m)
-		return form, ok
+		return h, same(h, m) && same(u, matrixOr(impl.IdentityMatrix(m.Rows))), ok
 	})
-	if counts[true] < 500 || counts[false] < 500 {
-		t.Errorf("%d matrices are forms, and %d are not", counts[true], counts[false])
-	}
 }
 
 func TestBasisOf(t *testing.T) {
